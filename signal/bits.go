@@ -42,9 +42,19 @@ func heldValue(s signal, bits uint64) int {
 		bit := int(bits >> uint(place) & 1)
 		value += bit << uint(i)
 	}
-	limit := 1 << uint(s.length)
-	// The highest bit was added, but counts as minus its worth: twice that less.
-	if s.kind == 's' && value >= limit/2 {
+	if s.kind == 's' {
+		value = extended(value, s.length)
+	}
+	return value
+}
+
+// extended answers the signed number that the lowest bits of a value are, as
+// many as length.
+func extended(value int, length int) int {
+	limit := 1 << uint(length)
+	value &= limit - 1
+	// The highest bit is in it, but counts as minus its worth: twice that less.
+	if value >= limit/2 {
 		value -= limit
 	}
 	return value
@@ -52,8 +62,13 @@ func heldValue(s signal, bits uint64) int {
 
 // fits tells whether the signal can hold a value.
 func fits(s signal, value int) bool {
-	limit := 1 << uint(s.length)
-	if s.kind == 's' {
+	return inRange(value, s.length, s.kind == 's')
+}
+
+// inRange tells whether as many bits as length can hold a value.
+func inRange(value int, length int, signed bool) bool {
+	limit := 1 << uint(length)
+	if signed {
 		return -limit/2 <= value && value < limit/2
 	}
 	return 0 <= value && value < limit

@@ -67,8 +67,33 @@ func TestStrangeArguments(t *testing.T) {
 			for _, payload := range payloads {
 				wantQuietUnpack(t, text, id, payload)
 			}
+			wantQuietCompile(t, text, id)
 		}
 	}
+	for _, code := range strangeCodes(r) {
+		wantModelVerify(t, code)
+		for _, values := range lists {
+			for _, size := range []int{0, 1, 8, 9, -1, math.MaxInt, math.MinInt} {
+				wantQuietFill(t, code, values, size)
+			}
+		}
+		for _, payload := range payloads {
+			wantQuietRead(t, code, payload)
+		}
+	}
+}
+
+// strangeCodes are near code and far from it.
+func strangeCodes(r *rand.Rand) []string {
+	codes := []string{"", "A", "\x00", "\xff\xff\xff\xff\xff", muxed, strings.Repeat("\xff", 480), strings.Repeat("A", 481),
+		strings.Repeat(op('J', 0, 0, 0, 255), 96), strings.Repeat(op('J', 0, 1, 0, 1), 95) + op('A', 0, 0, 0, 0)}
+	for range 300 {
+		code := []byte(randomCode(r) + op('A', 0, 0, 0, 0))
+		codes = append(codes, string(code), string(code[:r.Intn(len(code))]))
+		code[r.Intn(len(code))] = byte(r.Intn(256))
+		codes = append(codes, string(code), randomBytes(r, r.Intn(600)))
+	}
+	return codes
 }
 
 func wantQuietPack(t *testing.T, text string, id string, values []int) {
@@ -96,6 +121,41 @@ func wantQuietUnpack(t *testing.T, text string, id string, payload string) {
 	}
 }
 
+func wantQuietCompile(t *testing.T, text string, id string) {
+	t.Helper()
+	pack, unpack, err, place := signal.Compile(text, id)
+	wantErr, wantPlace := modelCheck(text)
+	if wantErr == signal.OK {
+		if _, found := modelFind(text, id); !found {
+			wantErr = signal.ErrId
+		}
+	}
+	if err != wantErr || place != wantPlace {
+		t.Errorf("P1: Compile(%q, %.9q) = %q %q %d %d, want %d %d", text, id, pack, unpack, err, place, wantErr, wantPlace)
+	}
+	if err != signal.OK && (pack != "" || unpack != "") {
+		t.Errorf("P1: Compile(%q) answers %q %q beside the error %d", text, pack, unpack, err)
+	}
+}
+
+func wantQuietFill(t *testing.T, code string, values []int, size int) {
+	t.Helper()
+	want, wantErr, wantPlace := modelFill(code, values, size)
+	wantFill(t, code, values, size, want, wantErr, wantPlace)
+	if payload, err, _ := signal.Fill(code, values, size); err != signal.OK && payload != "" {
+		t.Errorf("P1: Fill(%q) answers %q beside the error %d", code, payload, err)
+	}
+}
+
+func wantQuietRead(t *testing.T, code string, payload string) {
+	t.Helper()
+	want, wantSigns, wantErr, wantPlace := modelReadCode(code, payload)
+	wantRead(t, code, payload, want, wantSigns, wantErr, wantPlace)
+	if values, signs, err, _ := signal.Read(code, payload); err != signal.OK && (len(values) > 0 || signs != "") {
+		t.Errorf("P1: Read(%q) answers %v %q beside the error %d", code, values, signs, err)
+	}
+}
+
 // P1: a string that is too long is told ahead of all that is wrong with it and
 // with the other arguments.
 func TestLongAheadOfAll(t *testing.T) {
@@ -109,6 +169,16 @@ func TestLongAheadOfAll(t *testing.T) {
 		// An id has no bound of its own.
 		wantPack(t, muxed, long, nil, "", signal.ErrId, 0)
 		wantUnpack(t, muxed, long, "ab", nil, "", signal.ErrId, 0)
+		wantNoCode(t, long, long, signal.ErrLong, 0)
+		wantNoCode(t, muxed, long, signal.ErrId, 0)
+		wantRead(t, "", long, nil, "", signal.ErrLong, 0)
+		wantRead(t, "B", long, nil, "", signal.ErrLong, 0)
+	}
+	for _, long := range []string{strings.Repeat("A", 481), strings.Repeat(op('A', 0, 0, 0, 0), 97), strings.Repeat("\xff", 1<<26)} {
+		wantVerify(t, long, signal.ErrLong, 0)
+		wantFill(t, long, make([]int, 9), 9, "", signal.ErrLong, 0)
+		wantRead(t, long, "", nil, "", signal.ErrLong, 0)
+		wantRead(t, long, long, nil, "", signal.ErrLong, 0)
 	}
 }
 
@@ -116,9 +186,18 @@ func answers(text string, id string, values []int, payload string) string {
 	err, place := signal.Check(text)
 	packed, packErr, packPlace := signal.Pack(text, id, values)
 	held, signs, heldErr, heldPlace := signal.Unpack(text, id, payload)
-	answer := fmt.Sprint(err, place, []byte(packed), packErr, packPlace, held, signs, heldErr, heldPlace)
+	pack, unpack, codeErr, codePlace := signal.Compile(text, id)
+	passed, passedPlace := signal.Verify(unpack)
+	filled, filledErr, filledPlace := signal.Fill(pack, values, len(payload))
+	registers, marks, readErr, readPlace := signal.Read(unpack, payload)
+	answer := fmt.Sprint(err, place, []byte(packed), packErr, packPlace, held, signs, heldErr, heldPlace,
+		[]byte(pack), []byte(unpack), codeErr, codePlace, passed, passedPlace,
+		[]byte(filled), filledErr, filledPlace, registers, marks, readErr, readPlace)
 	for i := range held {
 		held[i] = -99
+	}
+	for i := range registers {
+		registers[i] = -99
 	}
 	return answer
 }

@@ -67,16 +67,66 @@ func Unpack(text string, id string, payload string) ([]int, string, Errno, int) 
 }
 
 // Verify checks code (P7).
-func Verify(code string) (Errno, int) { return 0, 0 }
+func Verify(code string) (Errno, int) {
+	_, err, place := soundCode(code)
+	return err, place
+}
 
 // Fill runs a packing program (P9).
-func Fill(code string, values []int, size int) (string, Errno, int) { return "", 0, 0 }
+func Fill(code string, values []int, size int) (string, Errno, int) {
+	program, err, place := soundCode(code)
+	if err != OK {
+		return "", err, place
+	}
+	if size < 0 || size > maxPayload {
+		return "", ErrSize, 0
+	}
+	if len(values) > registerCount {
+		return "", ErrCount, 0
+	}
+	m := machine{}
+	for i := 0; i < len(values); i++ {
+		m.registers[i] = values[i]
+	}
+	err, place = m.run(program)
+	if err != OK {
+		return "", err, place
+	}
+	return payloadText(m.bits, size), OK, 0
+}
 
 // Read runs an unpacking program (P10).
-func Read(code string, payload string) ([]int, string, Errno, int) { return nil, "", 0, 0 }
+func Read(code string, payload string) ([]int, string, Errno, int) {
+	if len(payload) > maxPayload {
+		return nil, "", ErrLong, 0
+	}
+	program, err, place := soundCode(code)
+	if err != OK {
+		return nil, "", err, place
+	}
+	m := machine{}
+	m.bits = payloadBits(payload)
+	err, place = m.run(program)
+	if err != OK {
+		return nil, "", err, place
+	}
+	values := []int{}
+	for i := 0; i < registerCount; i++ {
+		values = append(values, m.registers[i])
+	}
+	return values, m.signs(), OK, 0
+}
 
 // Compile makes the two programs of a message (P11).
-func Compile(text string, id string) (string, string, Errno, int) { return "", "", 0, 0 }
+func Compile(text string, id string) (string, string, Errno, int) {
+	m, err, place := soundMessage(text, id)
+	if err != OK {
+		return "", "", err, place
+	}
+	pack := packCode(m.signals)
+	unpack := unpackCode(m.signals)
+	return pack, unpack, OK, 0
+}
 
 // Frame puts a payload into a frame (P12).
 func Frame(id string, payload string) (string, Errno) { return "", 0 }
