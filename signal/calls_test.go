@@ -58,11 +58,26 @@ func TestStrangeArguments(t *testing.T) {
 	ids := []string{"", "0", "000", "1A0", "7FF", "8FF", "\xff\xff\xff", strings.Repeat("0", 5000)}
 	lists := [][]int{nil, {}, {0}, {math.MinInt}, {math.MaxInt, math.MinInt}, {0, 0, 0}, {math.MinInt, 1, math.MaxInt}, make([]int, 8), make([]int, 70000)}
 	payloads := []string{"", "\x00", "\xff\xff", "abc", "12345678", "123456789", strings.Repeat("\xff", 5000)}
+	for _, id := range ids {
+		for _, payload := range payloads {
+			want, err := modelFrame(id, payload)
+			wantFrame(t, id, payload, want, err)
+		}
+	}
+	rows := strangeBits(r)
+	for _, bits := range rows {
+		id, payload, err := modelDeframe(bits)
+		wantDeframe(t, bits, id, payload, err)
+	}
 	for _, text := range strangeTexts(r) {
 		wantModelCheck(t, text)
+		for range 4 {
+			wantQuietReceive(t, text, rows[r.Intn(len(rows))])
+		}
 		for _, id := range ids {
 			for _, values := range lists {
 				wantQuietPack(t, text, id, values)
+				wantQuietSend(t, text, id, values)
 			}
 			for _, payload := range payloads {
 				wantQuietUnpack(t, text, id, payload)
@@ -94,6 +109,55 @@ func strangeCodes(r *rand.Rand) []string {
 		codes = append(codes, string(code), randomBytes(r, r.Intn(600)))
 	}
 	return codes
+}
+
+// strangeBits are near frames and far from them.
+func strangeBits(r *rand.Rand) []string {
+	rows := []string{"", "0", "1", "x", "\x00", "é", muxed, tenOnes, "0" + tenOnes, strings.Repeat("0", 160), strings.Repeat("1", 160),
+		strings.Repeat("000001", 26), strings.Repeat("01", 80), strings.Repeat("\xff", 160), strings.Repeat("0", 161), strings.Repeat("\xff", 70000)}
+	for range 300 {
+		id, payload := fmt.Sprintf("%03X", r.Intn(2048)), randomPayload(r, r.Intn(9))
+		if r.Intn(2) == 0 {
+			id = "1A0"
+		}
+		good, _ := modelFrame(id, payload)
+		bits := []byte(good)
+		bits[r.Intn(len(bits))] = byte(r.Intn(256))
+		rows = append(rows, good, string(bits), good[:r.Intn(len(good))], good+good, randomBytes(r, r.Intn(200)), modelStuff(randomRow(r)))
+	}
+	return rows
+}
+
+// randomRow answers a row of bits, most of them as the one ahead.
+func randomRow(r *rand.Rand) string {
+	row := []byte{'0'}
+	for range r.Intn(110) {
+		bit := row[len(row)-1]
+		if r.Intn(3) == 0 {
+			bit = '0' + '1' - bit
+		}
+		row = append(row, bit)
+	}
+	return string(row)
+}
+
+func wantQuietSend(t *testing.T, text string, id string, values []int) {
+	t.Helper()
+	want, wantErr, wantPlace := modelSend(text, id, values)
+	wantSend(t, text, id, values, want, wantErr, wantPlace)
+	if bits, err, _ := signal.Send(text, id, values); err != signal.OK && bits != "" {
+		t.Errorf("P1: Send(%q) answers %q beside the error %d", text, bits, err)
+	}
+}
+
+func wantQuietReceive(t *testing.T, text string, bits string) {
+	t.Helper()
+	wantId, want, wantSigns, wantErr, wantPlace := modelReceive(text, bits)
+	wantReceive(t, text, bits, wantId, want, wantSigns, wantErr, wantPlace)
+	id, values, signs, err, _ := signal.Receive(text, bits)
+	if err != signal.OK && (id != "" || len(values) > 0 || signs != "") {
+		t.Errorf("P1: Receive(%q, %q) answers %q %v %q beside the error %d", text, bits, id, values, signs, err)
+	}
 }
 
 func wantQuietPack(t *testing.T, text string, id string, values []int) {
@@ -173,6 +237,16 @@ func TestLongAheadOfAll(t *testing.T) {
 		wantNoCode(t, muxed, long, signal.ErrId, 0)
 		wantRead(t, "", long, nil, "", signal.ErrLong, 0)
 		wantRead(t, "B", long, nil, "", signal.ErrLong, 0)
+		wantFrame(t, "000", long, "", signal.ErrLong)
+		wantFrame(t, long, long, "", signal.ErrLong)
+		wantFrame(t, long, "", "", signal.ErrId)
+		wantDeframe(t, long, "", "", signal.ErrLong)
+		wantSend(t, long, long, nil, "", signal.ErrLong, 0)
+		wantSend(t, muxed, long, nil, "", signal.ErrId, 0)
+		wantReceive(t, long, long, "", nil, "", signal.ErrLong, 0)
+		wantReceive(t, long, "", "", nil, "", signal.ErrLong, 0)
+		wantReceive(t, muxed, long, "", nil, "", signal.ErrLong, 0)
+		wantReceive(t, "", long, "", nil, "", signal.ErrLong, 0)
 	}
 	for _, long := range []string{strings.Repeat("A", 481), strings.Repeat(op('A', 0, 0, 0, 0), 97), strings.Repeat("\xff", 1<<26)} {
 		wantVerify(t, long, signal.ErrLong, 0)
@@ -190,14 +264,22 @@ func answers(text string, id string, values []int, payload string) string {
 	passed, passedPlace := signal.Verify(unpack)
 	filled, filledErr, filledPlace := signal.Fill(pack, values, len(payload))
 	registers, marks, readErr, readPlace := signal.Read(unpack, payload)
+	framed, framedErr := signal.Frame(id, payload)
+	partId, part, partErr := signal.Deframe(framed)
+	sent, sentErr, sentPlace := signal.Send(text, id, values)
+	fromId, from, fromSigns, fromErr, fromPlace := signal.Receive(text, framed)
 	answer := fmt.Sprint(err, place, []byte(packed), packErr, packPlace, held, signs, heldErr, heldPlace,
 		[]byte(pack), []byte(unpack), codeErr, codePlace, passed, passedPlace,
-		[]byte(filled), filledErr, filledPlace, registers, marks, readErr, readPlace)
+		[]byte(filled), filledErr, filledPlace, registers, marks, readErr, readPlace,
+		framed, framedErr, partId, []byte(part), partErr, sent, sentErr, sentPlace, fromId, from, fromSigns, fromErr, fromPlace)
 	for i := range held {
 		held[i] = -99
 	}
 	for i := range registers {
 		registers[i] = -99
+	}
+	for i := range from {
+		from[i] = -99
 	}
 	return answer
 }

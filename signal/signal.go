@@ -129,15 +129,59 @@ func Compile(text string, id string) (string, string, Errno, int) {
 }
 
 // Frame puts a payload into a frame (P12).
-func Frame(id string, payload string) (string, Errno) { return "", 0 }
+func Frame(id string, payload string) (string, Errno) {
+	if len(payload) > maxPayload {
+		return "", ErrLong
+	}
+	number := idNumber(id)
+	if number < 0 {
+		return "", ErrId
+	}
+	return frameText(number, payload), OK
+}
 
 // Deframe takes a frame apart (P13).
-func Deframe(bits string) (string, string, Errno) { return "", "", 0 }
+func Deframe(bits string) (string, string, Errno) {
+	if len(bits) > maxBits {
+		return "", "", ErrLong
+	}
+	number, payload, ok := frameParts(bits)
+	if !ok {
+		return "", "", ErrForm
+	}
+	if frameText(number, payload) != bits {
+		return "", "", ErrForm
+	}
+	return idText(number), payload, OK
+}
 
 // Send packs and frames (P14).
-func Send(text string, id string, values []int) (string, Errno, int) { return "", 0, 0 }
+func Send(text string, id string, values []int) (string, Errno, int) {
+	payload, err, place := Pack(text, id, values)
+	if err != OK {
+		return "", err, place
+	}
+	bits, err := Frame(id, payload)
+	return bits, err, 0
+}
 
 // Receive takes a frame apart and unpacks it (P15).
 func Receive(text string, bits string) (string, []int, string, Errno, int) {
-	return "", nil, "", 0, 0
+	// Ahead of Check, since ErrLong of any argument is told first.
+	if len(bits) > maxBits {
+		return "", nil, "", ErrLong, 0
+	}
+	err, place := Check(text)
+	if err != OK {
+		return "", nil, "", err, place
+	}
+	id, payload, err := Deframe(bits)
+	if err != OK {
+		return "", nil, "", err, 0
+	}
+	values, signs, err, place := Unpack(text, id, payload)
+	if err != OK {
+		return "", nil, "", err, place
+	}
+	return id, values, signs, OK, 0
 }
